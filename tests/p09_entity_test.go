@@ -580,7 +580,7 @@ func p09FullMessages() []impl.Sent {
 	return list
 }
 
-// p09Leaves returns the places of all numbers and strings in v, however deep, and of all slices.
+// p09Leaves returns the places of all numbers, booleans and strings in v, however deep, and of all slices.
 func p09Leaves(v reflect.Value) []reflect.Value {
 	list := []reflect.Value{}
 	switch v.Kind() {
@@ -614,6 +614,8 @@ func p09Variants(place reflect.Value, visit func()) {
 				put(reflect.ValueOf(n))
 			}
 		}
+	case reflect.Bool:
+		put(reflect.ValueOf(!old.Bool()))
 	case reflect.String:
 		for _, s := range []string{"", "g", old.String() + "s", "Get", old.String()[1:]} {
 			put(reflect.ValueOf(s))
